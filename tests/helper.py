@@ -28,6 +28,18 @@ def evidence(i, g, m):
     return [3, i, g, m]
 
 
+def doubts(m):
+    return [4, m]
+
+
+def keptout(m, i):
+    return [5, m, i]
+
+
+def cross(m):
+    return [6, m]
+
+
 def ask(*calls):
     """The answers to these calls on one object, each as a list."""
     told = answers([number for call in calls for number in call])
@@ -48,6 +60,12 @@ def ask_of(text, *calls):
 
 def list_text(words, left=1, right=1):
     return f"margins {left} {right} ;" + "".join(f" word {word} ;" for word in words)
+
+
+def piece_text(piece):
+    """The chunk of one of the program's pieces."""
+    part, before, first, last = piece
+    return ("." if first else "") + part[:before] + "1" + part[before:] + ("." if last else "")
 
 
 # A second reading: lists are told as (left, right, words), words as they stand in the text.
@@ -146,6 +164,93 @@ def plain_evidence(left, right, words, spot, m):
             if other[0] != spot[0] and (other[1], 1) in pattern_gaps(piece, letters_of(words[other[0]])):
                 says[0 if other[1] in breaks_of(words[other[0]]) else 1] += 1
     return [1 if spot[1] in breaks_of(words[spot[0]]) else 0] + says
+
+
+def plain_doubts(left, right, words, m):
+    found = []
+    for spot in plain_spots(left, right, words):
+        may, says_for, says_against = plain_evidence(left, right, words, spot, m)
+        more = says_against - says_for if may else says_for - says_against
+        if more > 0:
+            found.append((-more, spot))
+    return [len(found)] + [number for more, spot in sorted(found) for number in (*spot, -more)]
+
+
+def plain_goals(left, right, words):
+    return [spot for spot in plain_spots(left, right, words) if spot[1] in breaks_of(words[spot[0]])]
+
+
+def plain_parted(left, right, words, patterns):
+    """The gaps where these patterns, told as chunks, part the words."""
+    return [spot for spot in plain_spots(left, right, words)
+            if plain_levels(patterns, letters_of(words[spot[0]]))[spot[1]] % 2 == 1]
+
+
+def plain_family(left, right, words, m):
+    """The good pieces as chunks, each with the goals that it covers."""
+    goals = plain_goals(left, right, words)
+    family = []
+    for number, gap in goals:
+        letters = letters_of(words[number])
+        for size in range(1, m + 1):
+            for start in range(max(0, gap - size), min(gap, len(letters) - size) + 1):
+                bare = letters[start:gap] + "1" + letters[gap:start + size]
+                for chunk in (bare, "." + bare, bare + ".", "." + bare + "."):
+                    covers = plain_parted(left, right, words, [chunk])
+                    stands = (gap, 1) in pattern_gaps(chunk, letters)
+                    if stands and all(spot in goals for spot in covers) and (chunk, covers) not in family:
+                        family.append((chunk, covers))
+    return family
+
+
+def plain_used(family):
+    kinds = []
+    for chunk, covers in family:
+        if covers not in kinds:
+            kinds.append(covers)
+    return [(min([chunk for chunk, other in family if other == covers], key=len), covers) for covers in kinds]
+
+
+def plain_rows(left_over, used, count):
+    """Every row of just so many used pieces, each of which covers the lowest goal left over, that covers all."""
+    if not left_over or count == 0:
+        return [[]] if not left_over and count == 0 else []
+    return [[chunk] + rest for chunk, covers in used if left_over[0] in covers
+            for rest in plain_rows([goal for goal in left_over if goal not in covers], used, count - 1)]
+
+
+def plain_least_set(left, right, words, m):
+    """The least set as chunks, None if there is none: all rows of the fewest pieces, and the first of the shortest."""
+    goals = plain_goals(left, right, words)
+    used = plain_used(plain_family(left, right, words, m))
+    if not all(any(goal in covers for chunk, covers in used) for goal in goals):
+        return None
+    for count in range(len(goals) + 1):
+        rows = plain_rows(goals, used, count)
+        if rows:
+            return min(rows, key=lambda row: len("".join(row)))
+
+
+def plain_keptout(left, right, words, m, i):
+    others = words[:i] + words[i + 1:]
+    if len(plain_goals(left, right, others)) > 9:
+        return [-6]
+    chosen = plain_least_set(left, right, others, m)
+    if chosen is None:
+        return [0]
+    parted = plain_parted(left, right, [words[i]], chosen)
+    goals = plain_goals(left, right, [words[i]])
+    hits = len([spot for spot in parted if spot in goals])
+    return [1, hits, len(parted) - hits, len(goals) - hits]
+
+
+def plain_cross(left, right, words, m):
+    if len(words) > 6 or len(plain_goals(left, right, words)) > 9:
+        return [-6]
+    each = [plain_keptout(left, right, words, m, i) for i in range(len(words))]
+    told = [answer[1:] for answer in each if answer[0] == 1]
+    return [len([held for held in told if held[1:] == [0, 0]]), len(told)] + [sum(held[k] for held in told)
+                                                                              for k in range(3)]
 
 
 def plain_load(text):

@@ -2,14 +2,9 @@
 
 import unittest
 
-from helper import (HUGE, WORKED, ask, ask_of, evidence, letters_of, list_text, made_lists, pattern_gaps,
+from helper import (HUGE, WORKED, ask, ask_of, evidence, letters_of, list_text, made_lists, pattern_gaps, piece_text,
                     plain_evidence, plain_pieces, plain_spots)
 from wordgaps.pieces import find_pieces_around
-
-
-def piece_text(piece):
-    part, before, first, last = piece
-    return ("." if first else "") + part[:before] + "1" + part[before:] + ("." if last else "")
 
 
 class Answers(unittest.TestCase):

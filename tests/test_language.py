@@ -16,6 +16,8 @@ ArithmeticError OverflowError RuntimeError NotImplementedError AttributeError St
 METHODS = """append clear copy count endswith extend find get index insert isalnum isalpha isdigit islower isspace isupper
 items join keys ljust lower lstrip partition pop remove replace reverse rfind rjust rpartition rsplit rstrip setdefault
 split splitlines startswith strip update upper values zfill bit_length""".split()
+WALKED = "zip enumerate reversed range items keys values".split()
+TAKERS = "list tuple dict sorted sum any all enumerate zip".split()
 NOT_USED = """register mro elements open input version_info with_traceback add_note attrgetter breakpoint builtins compile
 copyright credits delattr dir eval exec exit gc getattr globals hasattr help id importlib license locals methodcaller os
 quit setattr super type vars sys typing enum""".split()
@@ -77,6 +79,33 @@ class Language(unittest.TestCase):
                 if isinstance(node, ast.ImportFrom):
                     self.assertIn(node, tree.body, file)
                     self.assertTrue((PACKAGE.parent / (node.module.replace(".", "/") + ".py")).is_file(), file)
+
+    def test_walked_at_once(self):
+        for file, text, tree in self.files:
+            allowed = []
+            for node in ast.walk(tree):
+                if isinstance(node, (ast.For, ast.comprehension)):
+                    allowed.append(node.iter)
+                elif isinstance(node, ast.Call) and isinstance(node.func, ast.Name) and node.func.id in TAKERS:
+                    allowed.extend(node.args[:1])
+            for node in ast.walk(tree):
+                if isinstance(node, ast.Call):
+                    name = node.func.id if isinstance(node.func, ast.Name) else node.func.attr
+                    if name in WALKED:
+                        self.assertIn(node, allowed, (file, node.lineno))
+
+    def test_sets_are_not_kept(self):
+        for file, text, tree in self.files:
+            allowed = []
+            for node in ast.walk(tree):
+                if isinstance(node, ast.Call) and isinstance(node.func, ast.Name) and node.func.id in ("sorted", "len"):
+                    allowed.extend(node.args)
+                elif isinstance(node, ast.Compare):
+                    allowed.extend(node.comparators)
+            for node in ast.walk(tree):
+                if isinstance(node, ast.Set) or isinstance(node, ast.Call) and isinstance(node.func, ast.Name) \
+                        and node.func.id in ("set", "frozenset"):
+                    self.assertIn(node, allowed, (file, node.lineno))
 
     def test_names(self):
         own = [node.name for file, text, tree in self.files for node in ast.walk(tree)

@@ -3,6 +3,8 @@
 A piece is a tuple: its letters, how many of them stand before the 1, and whether it has the first and the last point.
 """
 
+from wordgaps.spots import find_spots
+
 
 def find_pieces_around(letters, gap, length):
     """The pieces around a word's gap up to a length, in the order in which the document tells them."""
@@ -28,13 +30,22 @@ def point_pieces(letters, gap, place, end):
     return pieces
 
 
-def fits_at(piece, letters, gap):
-    """Whether a piece fits in a word's letters with its 1 just at the gap."""
+def count_bytes(piece):
+    """How many bytes the piece's chunk has."""
     part, before, first, last = piece
-    place = gap - before
-    end = place + len(part)
-    if place < 0 or letters[place:end] != part:
-        return False
-    if first and place != 0:
-        return False
-    return end == len(letters) or not last
+    points = [point for point in (first, last) if point]
+    return len(part) + 1 + len(points)
+
+
+def map_pieces(wordlist, length):
+    """Each piece up to a length around any spot of the list, with all spots that it is around, in their order.
+
+    Around a spot are just the pieces that stand there with their 1, so these are the spots that a piece parts as the
+    only pattern.
+    """
+    spots_by_piece = {}
+    for spot in find_spots(wordlist):
+        number, gap = spot
+        for piece in find_pieces_around(wordlist.words[number].letters, gap, length):
+            spots_by_piece.setdefault(piece, []).append(spot)
+    return spots_by_piece

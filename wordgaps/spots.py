@@ -16,3 +16,8 @@ def may_part(wordlist, spot):
     """Whether the spot's word may be parted there."""
     number, gap = spot
     return gap in wordlist.words[number].breaks
+
+
+def find_goals(wordlist):
+    """The spots that may be parted, in their order."""
+    return [spot for spot in find_spots(wordlist) if may_part(wordlist, spot)]
